@@ -6,6 +6,7 @@ import (
 
 	"coffret/api"
 	"coffret/chacha"
+	"coffret/sample"
 )
 
 // P4.1: the examples of RFC 8439, 2.3.2 and A.1.
@@ -146,7 +147,7 @@ func TestBlockIsTheSameAgain(t *testing.T) {
 		first[i] = '!'
 	}
 	chacha.Block(onesKey(), onesNonce(), 8)
-	chacha.Stream(onesKey(), onesNonce(), 7, text(100))
+	chacha.Stream(onesKey(), onesNonce(), 7, sample.Text(100))
 	if again := chacha.Block(someKey(), someNonce(), 7); !bytes.Equal(again[:], kept) {
 		t.Errorf("asked again it is %x, was %x", again, kept)
 	}

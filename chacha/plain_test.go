@@ -1,41 +1,31 @@
 package chacha_test
 
 import (
-	"bytes"
 	"fmt"
-	"testing"
 
 	"coffret/api"
 	"coffret/chacha"
+	"coffret/sample"
 )
-
-// text is n bytes that go on differently at each place of a block.
-func text(n int) []byte {
-	b := make([]byte, n)
-	for i := range b {
-		b[i] = byte(7*i + 3)
-	}
-	return b
-}
 
 func hex(b []byte) string {
 	return fmt.Sprintf("%x", b)
 }
 
 func someKey() api.Key {
-	return api.Key(text(32))
+	return api.Key(sample.Text(32))
 }
 
 func someNonce() chacha.Nonce {
-	return chacha.Nonce(text(12))
+	return chacha.Nonce(sample.Text(12))
 }
 
 func onesKey() api.Key {
-	return api.Key(bytes.Repeat([]byte{0xff}, 32))
+	return api.Key(sample.Ones(32))
 }
 
 func onesNonce() chacha.Nonce {
-	return chacha.Nonce(bytes.Repeat([]byte{0xff}, 12))
+	return chacha.Nonce(sample.Ones(12))
 }
 
 // counted is the key 00 01 02 and so on, which the RFC takes.
@@ -75,22 +65,6 @@ func counts() []uint32 {
 
 func lengths() []int {
 	return []int{0, 1, 2, 63, 64, 65, 127, 128, 129, 191, 192, 193, 300, 640}
-}
-
-// spared is a copy of a text with known bytes in its spare room, so that a test can tell whether somebody wrote there.
-func spared(x []byte) []byte {
-	return append(bytes.Clone(x), bytes.Repeat([]byte{0xEE}, 64)...)[:len(x)]
-}
-
-// checkSpared tells whether a text that spared made, and its spare room, are as they were.
-func checkSpared(t *testing.T, b, x []byte) {
-	t.Helper()
-	if !bytes.Equal(b, x) {
-		t.Errorf("handed in %x, now %x", x, b)
-	}
-	if !bytes.Equal(b[len(b):len(b)+64], bytes.Repeat([]byte{0xEE}, 64)) {
-		t.Errorf("the spare room of %x was written", x)
-	}
 }
 
 // plainBlock is the chapter's P4.1, taken word by word, by whole numbers modulo 2^32.

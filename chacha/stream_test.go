@@ -6,6 +6,7 @@ import (
 
 	"coffret/api"
 	"coffret/chacha"
+	"coffret/sample"
 )
 
 // P4.2: the examples of RFC 8439, 2.4.2 and A.2.
@@ -37,7 +38,7 @@ func TestStreamWhereTheCountGoesOver(t *testing.T) {
 		{0xfffffffe, "e1e771f374a820540bf8e353862295683b87b6df3c7c33876c0ceb7b18404d19d62e2a693ce9b67d7e1fba835daf596a894caf57b703e104a1226fa2a9b90bb32a81a735b25e7c2bc70fd988f01956366ccaa85fb2b3f6258042e0de884240552f13d436b2f2f5529070491fc2a73f8ae773405e2d37f575e861c75d9de82c2ca318529f05c092dd598234b72d2442e96d35798969d31ecd5e6faa0f546e6d64b353c148fa3492a541ba3467c8098cca509a5c8b964811c8db4184b9f00392578bebb0fb7b1c4022"},
 		{0xffffffff, "ea4167f5729ebceb074f99c8b05916762c8a689f727336e54082209ec80200156f539476f232359250b089df02677fcaa733001e6d77b5b528a1079d5d28ecece35812df4580d29d1942f477ede48229adf539c929935e8d1e2feacf94aeada4739301883a74d2e501fa742788494c0a905a9c4b5688d1889b01c4f9b043d2174b2b703bbbdc80e269b367e44f3abe81c2c6fd2b7a653db4e6ff05a0e28d36a21a0774f9e9db98ac19ea7a45f8539c4e3fa1810dcff55ec9ab06f19db99a1c902293103c004e3ca0"},
 	} {
-		if got := chacha.Stream(someKey(), someNonce(), c.count, text(200)); hex(got) != c.laid {
+		if got := chacha.Stream(someKey(), someNonce(), c.count, sample.Text(200)); hex(got) != c.laid {
 			t.Errorf("Stream from %x on: %x, want %s", c.count, got, c.laid)
 		}
 	}
@@ -61,7 +62,7 @@ func TestStreamOverTheLastCount(t *testing.T) {
 
 // P4.2, example 1: of no bytes there are none.
 func TestStreamOfNoBytes(t *testing.T) {
-	for _, b := range [][]byte{nil, {}, text(70)[:0], text(70)[70:]} {
+	for _, b := range [][]byte{nil, {}, sample.Text(70)[:0], sample.Text(70)[70:]} {
 		for _, count := range counts() {
 			if got := chacha.Stream(someKey(), someNonce(), count, b); len(got) != 0 {
 				t.Errorf("Stream of no bytes from %x on: %x", count, got)
@@ -73,7 +74,7 @@ func TestStreamOfNoBytes(t *testing.T) {
 // P4.2: lengths about whole blocks, at several counts, held against the chapter's words taken plainly.
 func TestStreamIsAsTheChapterSays(t *testing.T) {
 	for _, size := range lengths() {
-		for _, b := range [][]byte{text(size), make([]byte, size), bytes.Repeat([]byte{0xff}, size)} {
+		for _, b := range [][]byte{sample.Text(size), make([]byte, size), sample.Ones(size)} {
 			for _, count := range counts() {
 				got := chacha.Stream(someKey(), someNonce(), count, b)
 				if want := plainStream(someKey(), someNonce(), count, b); !bytes.Equal(got, want) {
@@ -88,8 +89,8 @@ func TestStreamIsAsTheChapterSays(t *testing.T) {
 func TestStreamByKeysAndNonces(t *testing.T) {
 	for _, k := range keys() {
 		for _, n := range nonces() {
-			got := chacha.Stream(k, n, 3, text(150))
-			if want := plainStream(k, n, 3, text(150)); !bytes.Equal(got, want) {
+			got := chacha.Stream(k, n, 3, sample.Text(150))
+			if want := plainStream(k, n, 3, sample.Text(150)); !bytes.Equal(got, want) {
 				t.Errorf("Stream by %x, %x: %x, want %x", k, n, got, want)
 			}
 		}
@@ -98,7 +99,7 @@ func TestStreamByKeysAndNonces(t *testing.T) {
 
 // P4.2: a text of more bytes than the limit of a sized one is laid over too, and its blocks are counted on through more than a byte.
 func TestStreamOfALongText(t *testing.T) {
-	b := text(api.MaxSized + 4464)
+	b := sample.Text(api.MaxSized + 4464)
 	for _, count := range []uint32{0, 0xfff0, 1<<32 - 256} {
 		if !bytes.Equal(chacha.Stream(someKey(), someNonce(), count, b), plainStream(someKey(), someNonce(), count, b)) {
 			t.Errorf("Stream of %d bytes from %x on is another", len(b), count)
@@ -110,8 +111,8 @@ func TestStreamOfALongText(t *testing.T) {
 func TestStreamTwice(t *testing.T) {
 	for _, size := range lengths() {
 		for _, count := range counts() {
-			once := chacha.Stream(someKey(), someNonce(), count, text(size))
-			if twice := chacha.Stream(someKey(), someNonce(), count, once); !bytes.Equal(twice, text(size)) {
+			once := chacha.Stream(someKey(), someNonce(), count, sample.Text(size))
+			if twice := chacha.Stream(someKey(), someNonce(), count, once); !bytes.Equal(twice, sample.Text(size)) {
 				t.Errorf("%d bytes from %x on, twice: %x", size, count, twice)
 			}
 		}
@@ -121,13 +122,13 @@ func TestStreamTwice(t *testing.T) {
 // P4.3: the first bytes are the same, however many there are, and whatever stands behind them.
 func TestStreamsFirstBytes(t *testing.T) {
 	for _, count := range counts() {
-		whole := chacha.Stream(someKey(), someNonce(), count, text(300))
+		whole := chacha.Stream(someKey(), someNonce(), count, sample.Text(300))
 		for size := range 301 {
-			if part := chacha.Stream(someKey(), someNonce(), count, text(size)); !bytes.Equal(part, whole[:size]) {
+			if part := chacha.Stream(someKey(), someNonce(), count, sample.Text(size)); !bytes.Equal(part, whole[:size]) {
 				t.Fatalf("the first %d bytes from %x on: %x, want %x", size, count, part, whole[:size])
 			}
 		}
-		other := append(text(100), make([]byte, 200)...)
+		other := append(sample.Text(100), make([]byte, 200)...)
 		if got := chacha.Stream(someKey(), someNonce(), count, other); !bytes.Equal(got[:100], whole[:100]) {
 			t.Errorf("the first bytes from %x on hang on those behind them", count)
 		}
@@ -137,10 +138,10 @@ func TestStreamsFirstBytes(t *testing.T) {
 // P4.2: what is behind whole blocks is what stands there from a later count on.
 func TestStreamBehindWholeBlocks(t *testing.T) {
 	for _, count := range counts() {
-		whole := chacha.Stream(someKey(), someNonce(), count, text(300))
+		whole := chacha.Stream(someKey(), someNonce(), count, sample.Text(300))
 		for blocks := range 5 {
 			at := 64 * blocks
-			if got := chacha.Stream(someKey(), someNonce(), count+uint32(blocks), text(300)[at:]); !bytes.Equal(got, whole[at:]) {
+			if got := chacha.Stream(someKey(), someNonce(), count+uint32(blocks), sample.Text(300)[at:]); !bytes.Equal(got, whole[at:]) {
 				t.Errorf("behind %d blocks from %x on: %x, want %x", blocks, count, got, whole[at:])
 			}
 		}
@@ -150,24 +151,28 @@ func TestStreamBehindWholeBlocks(t *testing.T) {
 // Rules 4 and 8: what is handed in is as it was, its spare room too.
 func TestStreamTouchesNothing(t *testing.T) {
 	for _, size := range lengths() {
-		b := spared(text(size))
+		b := sample.Spared(sample.Text(size))
 		chacha.Stream(someKey(), someNonce(), 1, b)
-		checkSpared(t, b, text(size))
+		if !sample.Untouched(b, sample.Text(size)) {
+			t.Errorf("%d bytes that were handed in were written: %x", size, b)
+		}
 	}
 }
 
 // Rule 4: what is handed out is new memory, its spare room too.
 func TestStreamHandsOutNewMemory(t *testing.T) {
 	for _, size := range lengths() {
-		b := spared(text(size))
+		b := sample.Spared(sample.Text(size))
 		first := chacha.Stream(someKey(), someNonce(), 1, b)
 		second := chacha.Stream(someKey(), someNonce(), 1, b)
 		all := first[:cap(first)]
 		for i := range all {
 			all[i] = '!'
 		}
-		checkSpared(t, b, text(size))
-		if !bytes.Equal(second, plainStream(someKey(), someNonce(), 1, text(size))) {
+		if !sample.Untouched(b, sample.Text(size)) {
+			t.Errorf("%d bytes that were handed in were written: %x", size, b)
+		}
+		if !bytes.Equal(second, plainStream(someKey(), someNonce(), 1, sample.Text(size))) {
 			t.Errorf("%d bytes that were handed out share memory", size)
 		}
 	}
@@ -175,12 +180,12 @@ func TestStreamHandsOutNewMemory(t *testing.T) {
 
 // Rule 4: what was handed in is not kept: changed later on, it changes nothing that was handed out.
 func TestStreamKeepsNothing(t *testing.T) {
-	b := text(130)
+	b := sample.Text(130)
 	laid := chacha.Stream(someKey(), someNonce(), 1, b)
 	for i := range b {
 		b[i] = '!'
 	}
-	if !bytes.Equal(laid, plainStream(someKey(), someNonce(), 1, text(130))) {
+	if !bytes.Equal(laid, plainStream(someKey(), someNonce(), 1, sample.Text(130))) {
 		t.Error("what was handed out hangs on what was handed in")
 	}
 }

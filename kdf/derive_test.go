@@ -6,6 +6,7 @@ import (
 
 	"coffret/api"
 	"coffret/kdf"
+	"coffret/sample"
 )
 
 // texts makes texts of words.
@@ -34,9 +35,9 @@ func TestDeriveIsAsKnown(t *testing.T) {
 		{"a", texts("bc"), "42711aef22f33069a3ba42702e07f73062b66762f231c1339571018bbf7baa4e"},
 		{"ab", texts("c"), "a04df9f8c820831ebb2d744f204467875a2738f2af3d3c549f6f58677df6e35f"},
 		{"word", texts("one", "two", "three"), "73c5b1deea74c57b20f19aae81f62f35a86e9fdebb0c4752715420161c102e2c"},
-		{strings.Repeat("w", 300), [][]byte{text(1000)}, "8c4286ddd7eb5eeac76ebbb4b228811cfe27f22fd74984a63728279d094d9761"},
+		{strings.Repeat("w", 300), [][]byte{sample.Text(1000)}, "8c4286ddd7eb5eeac76ebbb4b228811cfe27f22fd74984a63728279d094d9761"},
 		{"\xc3\xa9\x00\xff", texts("\x00"), "854ca3a4d5d721d125c255c7d20a1932ab464b4d62d753bba408fa9adc447cc1"},
-		{"word", [][]byte{text(api.MaxSized + 1)}, "f70d415f158f0dcc3368d83cf8d41a8765fd818ba4fff00648f3c5a5a706c57a"},
+		{"word", [][]byte{sample.Text(api.MaxSized + 1)}, "f70d415f158f0dcc3368d83cf8d41a8765fd818ba4fff00648f3c5a5a706c57a"},
 	} {
 		if k := kdf.Derive(someKey(), c.word, c.l...); hex(k[:]) != c.key {
 			t.Errorf("Derive(%.20q, %d texts) = %x, want %s", c.word, len(c.l), k, c.key)
@@ -47,8 +48,8 @@ func TestDeriveIsAsKnown(t *testing.T) {
 // P3.3: held against the chapter's words taken plainly, by several keys.
 func TestDeriveIsAsTheChapterSays(t *testing.T) {
 	for _, k := range []api.Key{{}, someKey(), kdf.Derive(someKey(), "next")} {
-		for _, word := range []string{"", "w", "word", string(text(70)), "\xff\xfe"} {
-			for _, l := range [][][]byte{nil, {nil}, {{}, nil, {}}, texts("a", "", "b"), {text(64), text(65), text(1)}, {text(300)}} {
+		for _, word := range []string{"", "w", "word", string(sample.Text(70)), "\xff\xfe"} {
+			for _, l := range [][][]byte{nil, {nil}, {{}, nil, {}}, texts("a", "", "b"), {sample.Text(64), sample.Text(65), sample.Text(1)}, {sample.Text(300)}} {
 				if got, want := kdf.Derive(k, word, l...), plainDerive(k, word, l...); got != want {
 					t.Errorf("Derive(%x, %q, %x) = %x, want %x", k, word, l, got, want)
 				}
@@ -97,7 +98,7 @@ func TestDeriveTellsTextsApart(t *testing.T) {
 func TestDeriveOfManyTexts(t *testing.T) {
 	var l [][]byte
 	for i := range 70000 {
-		l = append(l, text(i%3))
+		l = append(l, sample.Text(i%3))
 	}
 	if kdf.Derive(someKey(), "many", l...) != plainDerive(someKey(), "many", l...) {
 		t.Error("of many texts it is another")
@@ -107,13 +108,13 @@ func TestDeriveOfManyTexts(t *testing.T) {
 // What is handed in is as it was, its spare room too, and what lies there is not read.
 func TestDeriveTouchesNothing(t *testing.T) {
 	for _, n := range []int{0, 1, 64, 150} {
-		k, x, y := someKey(), spared(text(n)), spared(text(n+1))
+		k, x, y := someKey(), sample.Spared(sample.Text(n)), sample.Spared(sample.Text(n+1))
 		l := [][]byte{x, y, []byte("spare")}
-		if kdf.Derive(k, "word", l[:2]...) != plainDerive(k, "word", text(n), text(n+1)) {
+		if kdf.Derive(k, "word", l[:2]...) != plainDerive(k, "word", sample.Text(n), sample.Text(n+1)) {
 			t.Errorf("at %d bytes it is another", n)
 		}
-		checkSpared(t, "first text", x, text(n))
-		checkSpared(t, "second text", y, text(n+1))
+		checkSpared(t, "first text", x, sample.Text(n))
+		checkSpared(t, "second text", y, sample.Text(n+1))
 		if k != someKey() || len(l[0]) != n || len(l[1]) != n+1 || string(l[2]) != "spare" {
 			t.Error("the key or the list was changed")
 		}

@@ -4,6 +4,7 @@ import (
 	"testing"
 
 	"coffret/kdf"
+	"coffret/sample"
 )
 
 // checkEqual tells whether two texts are told to be the same, or not, from both sides.
@@ -21,14 +22,14 @@ func TestEqualOfNothing(t *testing.T) {
 	checkEqual(t, []byte{}, []byte{}, true)
 	for _, n := range []int{1, 2, 255, 256, 257, 65536} {
 		checkEqual(t, nil, make([]byte, n), false)
-		checkEqual(t, []byte{}, text(n), false)
+		checkEqual(t, []byte{}, sample.Text(n), false)
 	}
 }
 
 // P3.4: texts of one length, that differ in any one bit of any one byte.
 func TestEqualLooksAtEveryByte(t *testing.T) {
 	for _, n := range []int{1, 2, 3, 16, 32, 33, 64, 300} {
-		a, b := text(n), text(n)
+		a, b := sample.Text(n), sample.Text(n)
 		checkEqual(t, a, b, true)
 		checkEqual(t, a, a, true)
 		for i := range b {
@@ -46,7 +47,7 @@ func TestEqualLooksAtEveryByte(t *testing.T) {
 func TestEqualOfTextsThatDifferTwice(t *testing.T) {
 	for i := range 32 {
 		for j := range i {
-			a, b := text(32), text(32)
+			a, b := sample.Text(32), sample.Text(32)
 			b[i] ^= 0x55
 			b[j] ^= 0x55
 			checkEqual(t, a, b, false)
@@ -61,23 +62,23 @@ func TestEqualOfTextsThatDifferTwice(t *testing.T) {
 func TestEqualOfOtherLengths(t *testing.T) {
 	for n := range 70 {
 		for m := range n {
-			checkEqual(t, text(n), text(m), false)
+			checkEqual(t, sample.Text(n), sample.Text(m), false)
 			checkEqual(t, make([]byte, n), make([]byte, m), false)
 		}
 	}
-	checkEqual(t, text(256), text(512), false)
+	checkEqual(t, sample.Text(256), sample.Text(512), false)
 	checkEqual(t, make([]byte, 1), make([]byte, 257), false)
 }
 
 // What lies behind a text's length neither counts nor is touched.
 func TestEqualLooksAtTheLengthAlone(t *testing.T) {
 	for _, n := range []int{0, 1, 32, 65} {
-		a, b := spared(text(n)), spared(text(n))
+		a, b := sample.Spared(sample.Text(n)), sample.Spared(sample.Text(n))
 		b[:n+1][n] = 0xDD
 		checkEqual(t, a, b, true)
 		b[:n+1][n] = 0xEE
 		checkEqual(t, a, a[:n+1], false)
-		checkSpared(t, "first", a, text(n))
-		checkSpared(t, "second", b, text(n))
+		checkSpared(t, "first", a, sample.Text(n))
+		checkSpared(t, "second", b, sample.Text(n))
 	}
 }

@@ -7,6 +7,7 @@ import (
 
 	"coffret/api"
 	"coffret/kdf"
+	"coffret/sample"
 	"coffret/sha"
 )
 
@@ -51,7 +52,7 @@ func TestExtractAndExpandAreAsKnown(t *testing.T) {
 func TestExtractIsMacBySalt(t *testing.T) {
 	for _, n := range []int{0, 1, 31, 32, 33, 63, 64, 65, 200} {
 		for _, m := range []int{0, 1, 32, 64, 65, 200} {
-			salt, secret := text(n), bytes.Repeat([]byte{0x5a}, m)
+			salt, secret := sample.Text(n), bytes.Repeat([]byte{0x5a}, m)
 			if got, want := kdf.Extract(salt, secret), api.Key(plainMac(salt, secret)); got != want {
 				t.Errorf("a salt of %d bytes and a secret of %d: %x, want %x", n, m, got, want)
 			}
@@ -64,8 +65,8 @@ func TestExtractIsMacBySalt(t *testing.T) {
 
 // P3.2: Expand at the edges, with and without an info, held against the chapter's words taken plainly.
 func TestExpandIsAsTheChapterSays(t *testing.T) {
-	for _, k := range []api.Key{{}, someKey(), api.Key(bytes.Repeat([]byte{0xff}, 32))} {
-		for _, info := range [][]byte{nil, {}, []byte("i"), text(63), text(200)} {
+	for _, k := range []api.Key{{}, someKey(), api.Key(sample.Ones(32))} {
+		for _, info := range [][]byte{nil, {}, []byte("i"), sample.Text(63), sample.Text(200)} {
 			for _, n := range []int{0, 1, 2, 31, 32, 33, 63, 64, 65, 100, most - 33, most - 32, most - 31, most - 1, most} {
 				b, ok := kdf.Expand(k, info, n)
 				if !ok || len(b) != n || !bytes.Equal(b, plainExpand(k, info, n)) {
@@ -112,7 +113,7 @@ func TestExpandRefuses(t *testing.T) {
 
 // P3.2: each byte of the key and of the info counts.
 func TestExpandHangsOnEveryByte(t *testing.T) {
-	k, info := someKey(), text(70)
+	k, info := someKey(), sample.Text(70)
 	met := map[string]int{}
 	meet := func(i int) {
 		b, _ := kdf.Expand(k, info, 64)
@@ -137,28 +138,28 @@ func TestExpandHangsOnEveryByte(t *testing.T) {
 // What is handed in is as it was, its spare room too.
 func TestExtractAndExpandTouchNothing(t *testing.T) {
 	for _, n := range []int{0, 1, 33, 64, 65, 150} {
-		salt, secret, info := spared(text(n)), spared(text(n+1)), spared(text(n+2))
+		salt, secret, info := sample.Spared(sample.Text(n)), sample.Spared(sample.Text(n+1)), sample.Spared(sample.Text(n+2))
 		k := kdf.Extract(salt, secret)
 		b, _ := kdf.Expand(k, info, 100)
-		if k != api.Key(plainMac(text(n), text(n+1))) || !bytes.Equal(b, plainExpand(k, text(n+2), 100)) {
+		if k != api.Key(plainMac(sample.Text(n), sample.Text(n+1))) || !bytes.Equal(b, plainExpand(k, sample.Text(n+2), 100)) {
 			t.Errorf("at %d bytes it is another", n)
 		}
-		checkSpared(t, "salt", salt, text(n))
-		checkSpared(t, "secret", secret, text(n+1))
-		checkSpared(t, "info", info, text(n+2))
+		checkSpared(t, "salt", salt, sample.Text(n))
+		checkSpared(t, "secret", secret, sample.Text(n+1))
+		checkSpared(t, "info", info, sample.Text(n+2))
 	}
 }
 
 // What Expand hands out is new memory, its spare room too.
 func TestExpandHandsOutNewMemory(t *testing.T) {
 	for _, n := range []int{0, 1, 32, 33, 64} {
-		info := spared(text(n))
+		info := sample.Spared(sample.Text(n))
 		first, _ := kdf.Expand(someKey(), info, n)
 		second, _ := kdf.Expand(someKey(), info, n)
 		for i := range first[:cap(first)] {
 			first[:cap(first)][i] = '!'
 		}
-		checkSpared(t, "info", info, text(n))
+		checkSpared(t, "info", info, sample.Text(n))
 		if third, _ := kdf.Expand(someKey(), info, n); !bytes.Equal(second, third) || !bytes.Equal(second, plainExpand(someKey(), info, n)) {
 			t.Errorf("%d bytes that were handed out share memory", n)
 		}

@@ -6,6 +6,7 @@ import (
 	"testing"
 
 	"coffret/kdf"
+	"coffret/sample"
 	"coffret/sha"
 )
 
@@ -30,7 +31,7 @@ func TestMacIsAsKnown(t *testing.T) {
 		{200, "4590a5cb9b18f7a9f1564c5d113269b387e0ef8a222c0fe9624c94363f4ab6e4"},
 		{1000, "7310f03945e30039264835c299495c3d70103c8abebf9a685103a21a35b455af"},
 	} {
-		if got := kdf.Mac(text(c.n), []byte("what is told")); hex(got[:]) != c.mac {
+		if got := kdf.Mac(sample.Text(c.n), []byte("what is told")); hex(got[:]) != c.mac {
 			t.Errorf("Mac by a key of %d bytes: %x, want %s", c.n, got, c.mac)
 		}
 	}
@@ -57,9 +58,9 @@ func TestMacOfKnownTexts(t *testing.T) {
 // P3.1: every length of a key over two blocks, and of a text, held against the chapter's words taken plainly.
 func TestMacIsAsTheChapterSays(t *testing.T) {
 	for n := range 2*sha.Block + 3 {
-		for _, key := range [][]byte{text(n), make([]byte, n), bytes.Repeat([]byte{0xff}, n)} {
+		for _, key := range [][]byte{sample.Text(n), make([]byte, n), sample.Ones(n)} {
 			for _, m := range []int{0, 1, 55, 56, 64, 65, n} {
-				if got, want := kdf.Mac(key, text(m)), plainMac(key, text(m)); got != want {
+				if got, want := kdf.Mac(key, sample.Text(m)), plainMac(key, sample.Text(m)); got != want {
 					t.Fatalf("Mac of %d bytes by %x: %x, want %x", m, key, got, want)
 				}
 			}
@@ -80,10 +81,10 @@ func TestMacOfTextsInParts(t *testing.T) {
 		{[]byte("ab"), nil, []byte("c")},
 		{{}, []byte("abc"), {}},
 		{[]byte("c"), []byte("b"), []byte("a")},
-		{text(63), text(1), text(64), text(65)},
-		{text(1), text(200), text(3), nil, text(56)},
+		{sample.Text(63), sample.Text(1), sample.Text(64), sample.Text(65)},
+		{sample.Text(1), sample.Text(200), sample.Text(3), nil, sample.Text(56)},
 	} {
-		for _, key := range [][]byte{nil, {}, []byte("k"), text(64), text(65)} {
+		for _, key := range [][]byte{nil, {}, []byte("k"), sample.Text(64), sample.Text(65)} {
 			if got, want := kdf.Mac(key, l...), plainMac(key, bytes.Join(l, nil)); got != want {
 				t.Errorf("Mac of %d texts %x by %d bytes: %x, want %x", len(l), l, len(key), got, want)
 			}
@@ -97,7 +98,7 @@ func TestMacOfTextsInParts(t *testing.T) {
 // P3.1: a text cut at every two places comes to the same.
 func TestMacCutAnywhere(t *testing.T) {
 	const n = sha.Block + 3
-	b := text(n)
+	b := sample.Text(n)
 	want := plainMac([]byte("key"), b)
 	for i := range n + 1 {
 		for j := i; j <= n; j++ {
@@ -111,7 +112,7 @@ func TestMacCutAnywhere(t *testing.T) {
 // P3.1: zeros stand behind a key up to a block, so that those a key ends with make no other there; beyond a block they do.
 func TestMacByKeysThatEndWithZeros(t *testing.T) {
 	for n := range sha.Block + 1 {
-		key := append(text(n), make([]byte, sha.Block+1-n)...)
+		key := append(sample.Text(n), make([]byte, sha.Block+1-n)...)
 		want := kdf.Mac(key[:n], []byte("x"))
 		for m := n; m <= sha.Block; m++ {
 			if kdf.Mac(key[:m], []byte("x")) != want {
@@ -127,8 +128,8 @@ func TestMacByKeysThatEndWithZeros(t *testing.T) {
 // P3.1: a key beyond a block is taken as its sum; one of a block is not.
 func TestMacByAKeysSum(t *testing.T) {
 	for _, n := range []int{63, 64, 65, 66, 128, 500} {
-		sum := sha.Sum(text(n))
-		same := kdf.Mac(text(n), []byte("x")) == kdf.Mac(sum[:], []byte("x"))
+		sum := sha.Sum(sample.Text(n))
+		same := kdf.Mac(sample.Text(n), []byte("x")) == kdf.Mac(sum[:], []byte("x"))
 		if same != (n > sha.Block) {
 			t.Errorf("a key of %d bytes is taken as its sum: %v", n, same)
 		}
@@ -138,7 +139,7 @@ func TestMacByAKeysSum(t *testing.T) {
 // P3.1: each byte of the key and of the text counts, and the order of the texts.
 func TestMacHangsOnEveryByte(t *testing.T) {
 	for _, n := range []int{1, 32, 63, 64, 65, 130} {
-		key, b := text(n), text(n)
+		key, b := sample.Text(n), sample.Text(n)
 		met := map[[32]byte]int{kdf.Mac(key, b): 0}
 		for i := range n {
 			key[i] ^= 1
@@ -160,15 +161,15 @@ func TestMacHangsOnEveryByte(t *testing.T) {
 // What is handed in is as it was, its spare room too, and what lies there is not read.
 func TestMacTouchesNothing(t *testing.T) {
 	for _, n := range []int{0, 1, 63, 64, 65, 150} {
-		key, x, y := spared(text(n)), spared(text(n/2)), spared(text(3*n))
+		key, x, y := sample.Spared(sample.Text(n)), sample.Spared(sample.Text(n/2)), sample.Spared(sample.Text(3*n))
 		l := [][]byte{x, y, []byte("spare")}
 		got := kdf.Mac(key, l[:2]...)
-		if want := plainMac(text(n), append(text(n/2), text(3*n)...)); got != want {
+		if want := plainMac(sample.Text(n), append(sample.Text(n/2), sample.Text(3*n)...)); got != want {
 			t.Errorf("by %d bytes: %x, want %x", n, got, want)
 		}
-		checkSpared(t, "key", key, text(n))
-		checkSpared(t, "first text", x, text(n/2))
-		checkSpared(t, "second text", y, text(3*n))
+		checkSpared(t, "key", key, sample.Text(n))
+		checkSpared(t, "first text", x, sample.Text(n/2))
+		checkSpared(t, "second text", y, sample.Text(3*n))
 		if len(l[0]) != n/2 || len(l[1]) != 3*n || string(l[2]) != "spare" {
 			t.Error("the list of texts was changed")
 		}
@@ -177,11 +178,11 @@ func TestMacTouchesNothing(t *testing.T) {
 
 // A key and texts may lie in one memory.
 func TestMacOfOneMemory(t *testing.T) {
-	b := text(100)
-	if kdf.Mac(b[:70], b[10:90], b[:5]) != plainMac(text(70), append(text(90)[10:], text(5)...)) {
+	b := sample.Text(100)
+	if kdf.Mac(b[:70], b[10:90], b[:5]) != plainMac(sample.Text(70), append(sample.Text(90)[10:], sample.Text(5)...)) {
 		t.Error("it is another")
 	}
-	if !bytes.Equal(b, text(100)) {
+	if !bytes.Equal(b, sample.Text(100)) {
 		t.Error("the bytes were changed")
 	}
 }

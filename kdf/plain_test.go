@@ -6,40 +6,24 @@ import (
 	"testing"
 
 	"coffret/api"
+	"coffret/sample"
 	"coffret/sha"
 )
 
-// text is n bytes that go on differently at each place of a block.
-func text(n int) []byte {
-	b := make([]byte, n)
-	for i := range b {
-		b[i] = byte(7*i + 3)
-	}
-	return b
-}
-
 // someKey is the key that the known keys and bytes come of.
 func someKey() api.Key {
-	return api.Key(text(32))
+	return api.Key(sample.Text(32))
 }
 
 func hex(b []byte) string {
 	return fmt.Sprintf("%x", b)
 }
 
-// spared is a copy of a text with known bytes in its spare room, so that a test can tell whether somebody wrote there.
-func spared(x []byte) []byte {
-	return append(bytes.Clone(x), bytes.Repeat([]byte{0xEE}, 64)...)[:len(x)]
-}
-
-// checkSpared tells whether a text that spared made, and its spare room, are as they were.
+// checkSpared tells whether a text that Spared made is as it was.
 func checkSpared(t *testing.T, what string, b, x []byte) {
 	t.Helper()
-	if !bytes.Equal(b, x) {
-		t.Errorf("%s: handed in %x, now %x", what, x, b)
-	}
-	if !bytes.Equal(b[len(b):len(b)+64], bytes.Repeat([]byte{0xEE}, 64)) {
-		t.Errorf("%s: the spare room of %x was written", what, x)
+	if !sample.Untouched(b, x) {
+		t.Errorf("%s: handed in %x, written: %x", what, x, b)
 	}
 }
 

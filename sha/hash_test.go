@@ -4,6 +4,7 @@ import (
 	"bytes"
 	"testing"
 
+	"coffret/sample"
 	"coffret/sha"
 )
 
@@ -59,7 +60,7 @@ func TestWriteInParts(t *testing.T) {
 		h := sha.New()
 		var taken []byte
 		for _, n := range parts {
-			part := text(len(taken) + n)[len(taken):]
+			part := sample.Text(len(taken) + n)[len(taken):]
 			h.Write(part)
 			taken = append(taken, part...)
 		}
@@ -70,7 +71,7 @@ func TestWriteInParts(t *testing.T) {
 // P2.2: a text cut at every two places comes to the same.
 func TestWriteCutAnywhere(t *testing.T) {
 	const n = 2*sha.Block + 3
-	b := text(n)
+	b := sample.Text(n)
 	want := plainSum(b)
 	for i := range n + 1 {
 		for j := i; j <= n; j++ {
@@ -96,8 +97,8 @@ func TestSumInBetween(t *testing.T) {
 		taken = append(taken, byte(i*5))
 	}
 	for _, n := range []int{0, 60, 64, 65, 128, 200} {
-		h.Write(text(n))
-		taken = append(taken, text(n)...)
+		h.Write(sample.Text(n))
+		taken = append(taken, sample.Text(n)...)
 		checkHash(t, h, taken)
 	}
 }
@@ -117,10 +118,10 @@ func TestPlainHash(t *testing.T) {
 	checkHash(t, &none, nil)
 	for _, n := range []int{0, 1, 55, 56, 63, 64, 65, 119, 120, 128, 200} {
 		h := &sha.Hash{}
-		h.Write(text(n))
-		checkHash(t, h, text(n))
+		h.Write(sample.Text(n))
+		checkHash(t, h, sample.Text(n))
 		h.Write([]byte("abc"))
-		checkHash(t, h, append(text(n), "abc"...))
+		checkHash(t, h, append(sample.Text(n), "abc"...))
 	}
 }
 
@@ -128,11 +129,11 @@ func TestPlainHash(t *testing.T) {
 func TestWriteKeepsNothing(t *testing.T) {
 	for _, n := range []int{1, 63, 64, 65, 100} {
 		h := sha.New()
-		b := text(n)
+		b := sample.Text(n)
 		h.Write(b)
 		clear(b)
 		h.Write([]byte("x"))
-		checkHash(t, h, append(text(n), 'x'))
+		checkHash(t, h, append(sample.Text(n), 'x'))
 	}
 }
 

@@ -6,24 +6,16 @@ import (
 	"strings"
 	"testing"
 
+	"coffret/sample"
 	"coffret/sha"
 )
-
-// text is n bytes that go on differently at each place of a block.
-func text(n int) []byte {
-	b := make([]byte, n)
-	for i := range b {
-		b[i] = byte(7*i + 3)
-	}
-	return b
-}
 
 // hex is a sum as it is written down.
 func hex(sum [32]byte) string {
 	return fmt.Sprintf("%x", sum[:])
 }
 
-// known are sums of text(n), from another program, at the edges of a block and between them.
+// known are sums of sample.Text(n), from another program, at the edges of a block and between them.
 var known = []struct {
 	n   int
 	sum string
@@ -63,7 +55,7 @@ func TestSizes(t *testing.T) {
 // P2.1: Sum.
 func TestSumIsAsKnown(t *testing.T) {
 	for _, c := range known {
-		if got := hex(sha.Sum(text(c.n))); got != c.sum {
+		if got := hex(sha.Sum(sample.Text(c.n))); got != c.sum {
 			t.Errorf("Sum of %d bytes: %s, want %s", c.n, got, c.sum)
 		}
 	}
@@ -87,7 +79,7 @@ func TestSumOfKnownTexts(t *testing.T) {
 // P2.1: every length over several blocks, held against the chapter's words taken plainly.
 func TestSumIsAsTheChapterSays(t *testing.T) {
 	for n := range 4*sha.Block + 2 {
-		for _, b := range [][]byte{text(n), make([]byte, n), bytes.Repeat([]byte{0xff}, n)} {
+		for _, b := range [][]byte{sample.Text(n), make([]byte, n), sample.Ones(n)} {
 			if got, want := sha.Sum(b), plainSum(b); got != want {
 				t.Fatalf("Sum of %d bytes %x: %x, want %x", n, b, got, want)
 			}
@@ -98,8 +90,8 @@ func TestSumIsAsTheChapterSays(t *testing.T) {
 // P2.1: each byte of a text counts, and so does its length.
 func TestSumHangsOnEveryByte(t *testing.T) {
 	for _, n := range []int{1, 55, 56, 63, 64, 65, 130} {
-		b := text(n)
-		met := map[[32]byte]int{sha.Sum(b): -1, sha.Sum(append(text(n), 0)): -2, sha.Sum(b[:n-1]): -3}
+		b := sample.Text(n)
+		met := map[[32]byte]int{sha.Sum(b): -1, sha.Sum(append(sample.Text(n), 0)): -2, sha.Sum(b[:n-1]): -3}
 		for i := range b {
 			b[i] ^= 1
 			met[sha.Sum(b)] = i
@@ -132,10 +124,10 @@ func TestOfIsTheSumOfAllBehindEachOther(t *testing.T) {
 		{[]byte("ab"), nil, []byte("c")},
 		{{}, []byte("abc"), {}},
 		{[]byte("c"), []byte("b"), []byte("a")},
-		{text(55), text(1)},
-		{text(63), text(1), text(64), text(65)},
-		{text(64), text(64)},
-		{text(1), text(200), text(3), nil, text(56)},
+		{sample.Text(55), sample.Text(1)},
+		{sample.Text(63), sample.Text(1), sample.Text(64), sample.Text(65)},
+		{sample.Text(64), sample.Text(64)},
+		{sample.Text(1), sample.Text(200), sample.Text(3), nil, sample.Text(56)},
 	} {
 		whole := bytes.Join(l, nil)
 		if got, want := sha.Of(l...), plainSum(whole); got != want {
@@ -153,7 +145,7 @@ func TestOfIsTheSumOfAllBehindEachOther(t *testing.T) {
 // What is handed in is as it was, its spare room too, and what lies there is not read.
 func TestNothingHandedInIsTouched(t *testing.T) {
 	for _, n := range []int{0, 1, 55, 56, 63, 64, 65, 150} {
-		b := append(text(n), bytes.Repeat([]byte{0xEE}, 200)...)
+		b := append(sample.Text(n), bytes.Repeat([]byte{0xEE}, 200)...)
 		l := [][]byte{b[:n], b[:n/2], []byte("spare")}
 		h := sha.New()
 		h.Write(b[:n])
@@ -161,14 +153,14 @@ func TestNothingHandedInIsTouched(t *testing.T) {
 		sums := [][32]byte{sha.Sum(b[:n]), sha.Of(b[:n]), h.Sum()}
 		sha.Of(l[:2]...)
 		for _, sum := range sums {
-			if sum != plainSum(text(n)) {
+			if sum != plainSum(sample.Text(n)) {
 				t.Errorf("the sum of %d bytes hangs on their spare room", n)
 			}
 		}
-		if !bytes.Equal(b[:n], text(n)) || !bytes.Equal(b[n:], bytes.Repeat([]byte{0xEE}, 200)) {
+		if !bytes.Equal(b[:n], sample.Text(n)) || !bytes.Equal(b[n:], bytes.Repeat([]byte{0xEE}, 200)) {
 			t.Errorf("%d bytes were changed", n)
 		}
-		if !bytes.Equal(l[0], text(n)) || !bytes.Equal(l[1], text(n/2)) || string(l[2]) != "spare" {
+		if !bytes.Equal(l[0], sample.Text(n)) || !bytes.Equal(l[1], sample.Text(n/2)) || string(l[2]) != "spare" {
 			t.Errorf("a list of texts was changed")
 		}
 	}
