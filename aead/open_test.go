@@ -88,7 +88,7 @@ func TestOpenByAnotherKey(t *testing.T) {
 		sealed := aead.Seal(someKey(), someNonce(), sample.Ones(5), sample.Text(size))
 		k := someKey()
 		for i := range 8 * len(k) {
-			checkRefused(t, "by another key", api.Key(turned(k[:], i)), someNonce(), sample.Ones(5), sealed)
+			checkRefused(t, "by another key", api.Key(sample.Turned(k[:], i)), someNonce(), sample.Ones(5), sealed)
 		}
 		for _, other := range keys() {
 			if other != k {
@@ -104,7 +104,7 @@ func TestOpenByAnotherNonce(t *testing.T) {
 		sealed := aead.Seal(someKey(), someNonce(), sample.Ones(5), sample.Text(size))
 		n := someNonce()
 		for i := range 8 * len(n) {
-			checkRefused(t, "by another nonce", someKey(), chacha.Nonce(turned(n[:], i)), sample.Ones(5), sealed)
+			checkRefused(t, "by another nonce", someKey(), chacha.Nonce(sample.Turned(n[:], i)), sample.Ones(5), sealed)
 		}
 		for _, other := range nonces() {
 			if other != n {
@@ -124,14 +124,14 @@ func TestOpenBesideAnother(t *testing.T) {
 			checkRefused(t, "beside another", someKey(), someNonce(), other, sealed)
 		}
 		for i := range 8 * size {
-			refuse(turned(beside, i))
+			refuse(sample.Turned(beside, i))
 		}
 		for at := range size {
-			refuse(without(beside, at))
-			refuse(with(beside, at, 0))
+			refuse(sample.Without(beside, at))
+			refuse(sample.With(beside, at, 0))
 		}
-		refuse(with(beside, size, 0))
-		refuse(with(beside, size, 0xff))
+		refuse(sample.With(beside, size, 0))
+		refuse(sample.With(beside, size, 0xff))
 		refuse(nil)
 		refuse(make([]byte, size))
 		refuse(append(bytes.Clone(beside), beside...))
@@ -148,7 +148,7 @@ func TestOpenOfATurnedByte(t *testing.T) {
 	for _, size := range lengths() {
 		sealed := aead.Seal(someKey(), someNonce(), sample.Ones(5), sample.Text(size))
 		for i := range 8 * len(sealed) {
-			checkRefused(t, "a bit turned", someKey(), someNonce(), sample.Ones(5), turned(sealed, i))
+			checkRefused(t, "a bit turned", someKey(), someNonce(), sample.Ones(5), sample.Turned(sealed, i))
 		}
 		for at := range sealed {
 			other := bytes.Clone(sealed)
@@ -180,12 +180,12 @@ func TestOpenOfAnotherLength(t *testing.T) {
 			checkRefused(t, "another length", someKey(), someNonce(), sample.Ones(5), other)
 		}
 		for at := range sealed {
-			refuse(without(sealed, at))
-			refuse(with(sealed, at, 0))
-			refuse(with(sealed, at, 0xff))
+			refuse(sample.Without(sealed, at))
+			refuse(sample.With(sealed, at, 0))
+			refuse(sample.With(sealed, at, 0xff))
 		}
-		refuse(with(sealed, len(sealed), 0))
-		refuse(with(sealed, len(sealed), 0xff))
+		refuse(sample.With(sealed, len(sealed), 0))
+		refuse(sample.With(sealed, len(sealed), 0xff))
 		for n := 1; n <= len(sealed); n++ {
 			refuse(sealed[n:])
 			refuse(sealed[:len(sealed)-n])

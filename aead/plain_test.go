@@ -46,23 +46,6 @@ func texts() [][]byte {
 	return l
 }
 
-// turned is a copy of a text with one bit turned, that of the number i.
-func turned(b []byte, i int) []byte {
-	other := bytes.Clone(b)
-	other[i/8] ^= 1 << (i % 8)
-	return other
-}
-
-// without is a copy of a text without the byte at a place.
-func without(b []byte, at int) []byte {
-	return append(bytes.Clone(b[:at]), b[at+1:]...)
-}
-
-// with is a copy of a text with one more byte at a place.
-func with(b []byte, at int, x byte) []byte {
-	return append(append(bytes.Clone(b[:at]), x), b[at:]...)
-}
-
 // plainTag is the chapter's P6.1, taken word by word, with zeros counted one by one.
 func plainTag(k api.Key, n chacha.Nonce, beside, sealed []byte) [16]byte {
 	var whole []byte

@@ -128,10 +128,10 @@ func TestTagHangsOnEachBit(t *testing.T) {
 	for _, size := range []int{1, 16, 33} {
 		was := aead.Tag(someKey(), someNonce(), sample.Text(size), sample.Ones(size))
 		for i := range 8 * size {
-			if aead.Tag(someKey(), someNonce(), turned(sample.Text(size), i), sample.Ones(size)) == was {
+			if aead.Tag(someKey(), someNonce(), sample.Turned(sample.Text(size), i), sample.Ones(size)) == was {
 				t.Errorf("with the bit %d of %d bytes beside turned the tag is the same", i, size)
 			}
-			if aead.Tag(someKey(), someNonce(), sample.Text(size), turned(sample.Ones(size), i)) == was {
+			if aead.Tag(someKey(), someNonce(), sample.Text(size), sample.Turned(sample.Ones(size), i)) == was {
 				t.Errorf("with the bit %d of %d sealed bytes turned the tag is the same", i, size)
 			}
 		}

@@ -63,7 +63,7 @@ func checkTake(t *testing.T, what string, s *draws.Source, n int, want []byte) {
 	t.Helper()
 	used := s.Used()
 	if got := s.Take(n); !bytes.Equal(got, want) {
-		t.Errorf("%s: Take(%d) tells %d bytes, %x, want %d, %x", what, n, len(got), some(got), len(want), some(want))
+		t.Errorf("%s: Take(%d) tells %d bytes, %x, want %d, %x", what, n, len(got), sample.Some(got), len(want), sample.Some(want))
 	}
 	checkUsed(t, what, s, used+len(want))
 }
@@ -86,9 +86,4 @@ func checkUsed(t *testing.T, what string, s *draws.Source, want int) {
 			t.Errorf("%s: %d were told, it says %d", what, want, got)
 		}
 	}
-}
-
-// some is the beginning of a text, short enough to be shown.
-func some(b []byte) []byte {
-	return b[:min(len(b), 100)]
 }

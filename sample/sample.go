@@ -6,6 +6,7 @@ import "bytes"
 const (
 	spareBytes = 64
 	spareByte  = 0xEE
+	shownBytes = 100
 )
 
 // Text is n bytes that go on differently at each place of a block.
@@ -30,6 +31,28 @@ func Spared(x []byte) []byte {
 // Untouched tells whether what Spared made of a text, and its spare room, are as they were.
 func Untouched(b, x []byte) bool {
 	return bytes.Equal(b, x) && bytes.Equal(b[len(b):len(b)+spareBytes], spare())
+}
+
+// Turned is a copy of a text with one bit turned, that of the number i.
+func Turned(b []byte, i int) []byte {
+	other := bytes.Clone(b)
+	other[i/8] ^= 1 << (i % 8)
+	return other
+}
+
+// Without is a copy of a text without the byte at a place.
+func Without(b []byte, at int) []byte {
+	return append(bytes.Clone(b[:at]), b[at+1:]...)
+}
+
+// With is a copy of a text with one more byte at a place.
+func With(b []byte, at int, x byte) []byte {
+	return append(append(bytes.Clone(b[:at]), x), b[at:]...)
+}
+
+// Some is the beginning of a text, short enough to be shown.
+func Some(b []byte) []byte {
+	return b[:min(len(b), shownBytes)]
 }
 
 func spare() []byte {

@@ -38,3 +38,31 @@ func TestText(t *testing.T) {
 		}
 	}
 }
+
+// A bit turned, a byte less or more: all are others than the text, which is as it was.
+func TestOthers(t *testing.T) {
+	text := sample.Spared([]byte("abc"))
+	for _, c := range []struct {
+		got  []byte
+		want string
+	}{
+		{sample.Turned(text, 0), "`bc"},
+		{sample.Turned(text, 9), "a`c"},
+		{sample.Turned(text, 23), "ab\xe3"},
+		{sample.Without(text, 0), "bc"},
+		{sample.Without(text, 1), "ac"},
+		{sample.Without(text, 2), "ab"},
+		{sample.With(text, 0, 'x'), "xabc"},
+		{sample.With(text, 2, 'x'), "abxc"},
+		{sample.With(text, 3, 'x'), "abcx"},
+		{sample.Some(text), "abc"},
+		{sample.Some(sample.Ones(101)), string(sample.Ones(100))},
+	} {
+		if string(c.got) != c.want {
+			t.Errorf("%q, want %q", c.got, c.want)
+		}
+	}
+	if !sample.Untouched(text, []byte("abc")) {
+		t.Errorf("the text is %q", text)
+	}
+}
