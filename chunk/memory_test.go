@@ -29,14 +29,6 @@ func checkSpared(t *testing.T, what string, own, l []int) {
 	}
 }
 
-// overwrite writes over all of a list, its spare room too.
-func overwrite[T any](l []T, x T) {
-	l = l[:cap(l)]
-	for i := range l {
-		l[i] = x
-	}
-}
-
 // Rules 4 and 8: a text that is handed in is as it was, its spare room too, and not read beyond its length.
 func TestTextsAreNotTouched(t *testing.T) {
 	for _, n := range []int{0, 1, 2, 251, 252, 253, 256, 508, 2044, sizedMost + 1, most, most + 1} {
@@ -69,11 +61,11 @@ func TestTextsAreNewMemory(t *testing.T) {
 		text := sample.Text(n)
 		own := sample.Spared(text)
 		first, second := padded(t, own), padded(t, own)
-		overwrite(first, 0xDD)
+		sample.Overwrite(first, 0xDD)
 		if !sample.Untouched(own, text) || !bytes.Equal(second, plainPad(text)) {
 			t.Errorf("Pad of %d bytes shares memory", n)
 		}
-		overwrite(own, 0xDD)
+		sample.Overwrite(own, 0xDD)
 		if !bytes.Equal(second, plainPad(text)) || !bytes.Equal(padded(t, text), second) {
 			t.Errorf("Pad keeps a text of %d bytes", n)
 		}
@@ -81,11 +73,11 @@ func TestTextsAreNewMemory(t *testing.T) {
 		own = sample.Spared(plainPad(text))
 		one, _ := chunk.Unpad(own)
 		other, _ := chunk.Unpad(own)
-		overwrite(one, 0xDD)
+		sample.Overwrite(one, 0xDD)
 		if !sample.Untouched(own, plainPad(text)) || !bytes.Equal(other, text) {
 			t.Errorf("Unpad to %d bytes shares memory", n)
 		}
-		overwrite(own, 0xDD)
+		sample.Overwrite(own, 0xDD)
 		if !bytes.Equal(other, text) {
 			t.Errorf("Unpad keeps bytes of a text of %d bytes", n)
 		}
@@ -127,7 +119,7 @@ func TestCutLeavesTheListAlone(t *testing.T) {
 			checkSpared(t, what, own, ints(n))
 			checkParts(t, what, parts, plainCut(ints(n), size))
 
-			overwrite(own, overwrote)
+			sample.Overwrite(own, overwrote)
 			checkParts(t, what+", the list written over", parts, plainCut(ints(n), size))
 		}
 	}
@@ -146,11 +138,11 @@ func TestPartsShareNothing(t *testing.T) {
 
 				longer := append(parts[at], overwrote, overwrote, overwrote)
 				checkParts(t, what+", appended to", parts, want)
-				overwrite(longer, overwrote)
+				sample.Overwrite(longer, overwrote)
 				checkParts(t, what+", appended to, and that written over", parts, want)
 
-				overwrite(parts[at], overwrote)
-				overwrite(want[at][:len(want[at]):len(want[at])], overwrote)
+				sample.Overwrite(parts[at], overwrote)
+				sample.Overwrite(want[at][:len(want[at]):len(want[at])], overwrote)
 				checkParts(t, what+", written over", parts, want)
 				checkSpared(t, what, own, ints(n))
 			}
@@ -163,7 +155,7 @@ func TestPartsShareNothing(t *testing.T) {
 func TestCutTellsNewLists(t *testing.T) {
 	l := ints(9)
 	first, second := chunk.Cut(l, 2), chunk.Cut(l, 2)
-	overwrite(first, []int{overwrote})
+	sample.Overwrite(first, []int{overwrote})
 	checkParts(t, "another answer", second, plainCut(ints(9), 2))
 	checkParts(t, "asked again", chunk.Cut(l, 2), plainCut(ints(9), 2))
 }
@@ -185,7 +177,7 @@ func TestJoinLeavesThePartsAlone(t *testing.T) {
 		if !slices.EqualFunc(all, append(slices.Clone(parts), []int{spare}), slices.Equal[[]int]) {
 			t.Errorf("%s: the list is now %v", what, all)
 		}
-		overwrite(got, overwrote)
+		sample.Overwrite(got, overwrote)
 		for i, part := range own {
 			checkSpared(t, what, part, parts[i])
 		}
@@ -199,12 +191,12 @@ func TestJoinTellsNewLists(t *testing.T) {
 			parts := plainCut(want, size)
 			first, second := chunk.Join(parts), chunk.Join(parts)
 			_ = append(first, overwrote)
-			overwrite(first, overwrote)
+			sample.Overwrite(first, overwrote)
 			if !slices.Equal(second, want) || !slices.Equal(chunk.Join(parts), want) {
 				t.Errorf("%d by %d: two answers share memory", len(want), size)
 			}
 			for _, part := range parts {
-				overwrite(part, overwrote)
+				sample.Overwrite(part, overwrote)
 			}
 			if !slices.Equal(second, want) {
 				t.Errorf("%d by %d: the parts are kept", len(want), size)

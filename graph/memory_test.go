@@ -10,14 +10,6 @@ import (
 	"coffret/sample"
 )
 
-// overwrite writes all over a list, its spare room too.
-func overwrite[T any](l []T, x T) {
-	l = l[:cap(l)]
-	for i := range l {
-		l[i] = x
-	}
-}
-
 // checkSpared tells whether what withSpare made of a list is as it was, its spare room too.
 func checkSpared(t *testing.T, what string, own, l []api.Id) {
 	t.Helper()
@@ -40,12 +32,12 @@ func TestPutKeepsNothingOfTheCaller(t *testing.T) {
 		if !sample.Untouched(own.Data, o.Data) {
 			t.Errorf("%s was touched", shown(o))
 		}
-		overwrite(own.Data, 0xDD)
+		sample.Overwrite(own.Data, 0xDD)
 		checkIds(t, s, plainSet{o})
 
 		again := object.Object{Kind: o.Kind, Data: slices.Clone(o.Data)}
 		put(t, s, again)
-		overwrite(again.Data, 0xDD)
+		sample.Overwrite(again.Data, 0xDD)
 		checkIds(t, s, plainSet{o})
 	}
 	for _, x := range wrongs() {
@@ -65,7 +57,7 @@ func TestGetHandsOutNewMemory(t *testing.T) {
 		for _, x := range []*graph.Set{s, c, s.Clone()} {
 			got, _ := x.Get(object.Id(o))
 			other, _ := x.Get(object.Id(o))
-			overwrite(got.Data, 0xDD)
+			sample.Overwrite(got.Data, 0xDD)
 			if !sameObject(other, o) {
 				t.Errorf("%s: two answers share memory", shown(o))
 			}
@@ -120,16 +112,16 @@ func TestListsAreNewMemory(t *testing.T) {
 	wantThere, wantMissing = slices.Clone(wantThere), slices.Clone(wantMissing)
 	beyond := slices.Clone(s.Beyond(roots, []api.Id{f.first}))
 	for range 3 {
-		overwrite(s.Ids(), nameOf(9))
-		overwrite(s.Log(f.both), nameOf(9))
-		overwrite(s.Beyond(roots, []api.Id{f.first}), nameOf(9))
+		sample.Overwrite(s.Ids(), nameOf(9))
+		sample.Overwrite(s.Log(f.both), nameOf(9))
+		sample.Overwrite(s.Beyond(roots, []api.Id{f.first}), nameOf(9))
 		there, missing := s.Reach(roots...)
-		overwrite(there, nameOf(9))
+		sample.Overwrite(there, nameOf(9))
 		if !slices.Equal(missing, wantMissing) {
 			t.Error("what is missing shares memory with what is there")
 		}
 		there, missing = s.Reach(roots...)
-		overwrite(missing, nameOf(9))
+		sample.Overwrite(missing, nameOf(9))
 		if !slices.Equal(there, wantThere) {
 			t.Error("what is there shares memory with what is missing")
 		}
@@ -151,8 +143,8 @@ func TestRootsAreNotKept(t *testing.T) {
 		there, missing := s.Reach(own...)
 		beyond := s.Beyond(own, others)
 		wantThere, wantMissing, wantBeyond := slices.Clone(there), slices.Clone(missing), slices.Clone(beyond)
-		overwrite(own, nameOf(9))
-		overwrite(others, nameOf(9))
+		sample.Overwrite(own, nameOf(9))
+		sample.Overwrite(others, nameOf(9))
 		if !slices.Equal(there, wantThere) || !slices.Equal(missing, wantMissing) || !slices.Equal(beyond, wantBeyond) {
 			t.Error("an answer shares memory with what was handed in")
 		}

@@ -15,14 +15,6 @@ func withSpare[T any](l []T, spare T) []T {
 	return append(slices.Clone(l), spare, spare, spare)[:len(l)]
 }
 
-// overwrite writes over all of a list, its spare room too.
-func overwrite[T any](l []T, x T) {
-	l = l[:cap(l)]
-	for i := range l {
-		l[i] = x
-	}
-}
-
 // Rules 4 and 8: Data that are handed in are as they were, their spare room too, whatever is asked, of objects right or wrong.
 func TestDataAreNotTouched(t *testing.T) {
 	for _, o := range samples() {
@@ -82,8 +74,8 @@ func TestNothingIsKept(t *testing.T) {
 		m, _ := object.MarkOf(x)
 		b := object.Put(o)
 		read, _ := object.Read(b)
-		overwrite(data, 0xEE)
-		overwrite(b, 0xEE)
+		sample.Overwrite(data, 0xEE)
+		sample.Overwrite(b, 0xEE)
 		if !bytes.Equal(put, plainPut(o)) || !slices.Equal(links, plainLinks(o)) || !sameObject(read, o) {
 			t.Errorf("%s: what was put, linked or read is another", shown(o))
 		}
@@ -116,7 +108,7 @@ func TestListsAreNotKept(t *testing.T) {
 	for _, l := range trees() {
 		own := slices.Clone(l)
 		o, _ := object.OfTree(own)
-		overwrite(own, object.Entry{Name: "overwritten"})
+		sample.Overwrite(own, object.Entry{Name: "overwritten"})
 		if !bytes.Equal(o.Data, plainTree(l)) {
 			t.Errorf("%s", shown(o))
 		}
@@ -125,7 +117,7 @@ func TestListsAreNotKept(t *testing.T) {
 		own := c
 		own.Parents = slices.Clone(c.Parents)
 		o, _ := object.OfChange(own)
-		overwrite(own.Parents, id(99))
+		sample.Overwrite(own.Parents, id(99))
 		if !bytes.Equal(o.Data, plainCommit(c)) {
 			t.Errorf("%s", shown(o))
 		}
@@ -138,14 +130,14 @@ func TestAnswersAreNewMemory(t *testing.T) {
 		x := object.Object{Kind: o.Kind, Data: sample.Spared(o.Data)}
 		b := sample.Spared(object.Put(o))
 		for range 3 {
-			overwrite(object.Put(x), 0xDD)
-			overwrite(object.Links(x), id(99))
+			sample.Overwrite(object.Put(x), 0xDD)
+			sample.Overwrite(object.Links(x), id(99))
 			l, _ := object.TreeOf(x)
-			overwrite(l, object.Entry{Name: "overwritten"})
+			sample.Overwrite(l, object.Entry{Name: "overwritten"})
 			c, _ := object.ChangeOf(x)
-			overwrite(c.Parents, id(99))
+			sample.Overwrite(c.Parents, id(99))
 			read, _ := object.Read(b)
-			overwrite(read.Data, 0xDD)
+			sample.Overwrite(read.Data, 0xDD)
 		}
 		if !sample.Untouched(x.Data, o.Data) || !sample.Untouched(b, object.Put(o)) {
 			t.Errorf("%s shares memory with what is told of it", shown(o))
@@ -160,7 +152,7 @@ func TestMadeObjectsAreNewMemory(t *testing.T) {
 		for _, l := range trees() {
 			first, _ := object.OfTree(l)
 			second, _ := object.OfTree(l)
-			overwrite(first.Data, 0xDD)
+			sample.Overwrite(first.Data, 0xDD)
 			if !bytes.Equal(second.Data, plainTree(l)) {
 				t.Errorf("%s", shown(second))
 			}
@@ -168,7 +160,7 @@ func TestMadeObjectsAreNewMemory(t *testing.T) {
 		for _, c := range changes() {
 			first, _ := object.OfChange(c)
 			second, _ := object.OfChange(c)
-			overwrite(first.Data, 0xDD)
+			sample.Overwrite(first.Data, 0xDD)
 			if !bytes.Equal(second.Data, plainCommit(c)) {
 				t.Errorf("%s", shown(second))
 			}
@@ -176,7 +168,7 @@ func TestMadeObjectsAreNewMemory(t *testing.T) {
 		for _, m := range marks() {
 			first, _ := object.OfMark(m)
 			second, _ := object.OfMark(m)
-			overwrite(first.Data, 0xDD)
+			sample.Overwrite(first.Data, 0xDD)
 			if !bytes.Equal(second.Data, plainNote(m)) {
 				t.Errorf("%s", shown(second))
 			}

@@ -11,14 +11,6 @@ import (
 	"coffret/sample"
 )
 
-// overwrite writes over all of a list, its spare room too.
-func overwrite[T any](l []T, x T) {
-	l = l[:cap(l)]
-	for i := range l {
-		l[i] = x
-	}
-}
-
 // owned is a copy of a list and of its objects' Data, all with known items in their spare room.
 func owned(l []object.Object) []object.Object {
 	var out []object.Object
@@ -68,15 +60,15 @@ func TestPacksAreNewMemory(t *testing.T) {
 		first, second := packed(t, own), packed(t, own)
 		want := bytes.Clone(second)
 		_ = append(first, 0xDD)
-		overwrite(first, 0xDD)
+		sample.Overwrite(first, 0xDD)
 		checkOwned(t, own, l)
 		if !bytes.Equal(second, want) || !bytes.Equal(packed(t, l), want) {
 			t.Errorf("%s: two packs share memory", some(l))
 		}
 		for _, o := range own {
-			overwrite(o.Data, 0xDD)
+			sample.Overwrite(o.Data, 0xDD)
 		}
-		overwrite(own, object.Object{Kind: 9})
+		sample.Overwrite(own, object.Object{Kind: 9})
 		if !bytes.Equal(second, want) {
 			t.Errorf("%s: the pack shares memory with what it was made of", some(l))
 		}
@@ -121,13 +113,13 @@ func TestAnswersAreNewMemory(t *testing.T) {
 			read, _ := pack.Read(own)
 			for i := range read {
 				_ = append(read[i].Data, 0xDD)
-				overwrite(read[i].Data, 0xDD)
+				sample.Overwrite(read[i].Data, 0xDD)
 			}
-			overwrite(read, object.Object{Kind: 9})
+			sample.Overwrite(read, object.Object{Kind: 9})
 			index, _ := pack.Index(own)
-			overwrite(index, pack.Place{At: -1})
+			sample.Overwrite(index, pack.Place{At: -1})
 			found, _ := pack.Find(own, object.Id(l[0]))
-			overwrite(found.Data, 0xDD)
+			sample.Overwrite(found.Data, 0xDD)
 		}
 		if !sample.Untouched(own, b) {
 			t.Errorf("%s: the pack shares memory with what is told of it", some(l))
@@ -137,7 +129,7 @@ func TestAnswersAreNewMemory(t *testing.T) {
 		read, _ := pack.Read(own)
 		index, _ := pack.Index(own)
 		found, _ := pack.Find(own, object.Id(l[0]))
-		overwrite(own, 0xDD)
+		sample.Overwrite(own, 0xDD)
 		if !sameObjects(read, want) || !slices.Equal(index, plainIndex(want)) || !sameObject(found, l[0]) {
 			t.Errorf("%s: what is told shares memory with the pack", some(l))
 		}
@@ -150,8 +142,8 @@ func TestObjectsOfAnAnswerShareNothing(t *testing.T) {
 	b := packed(t, kinds())
 	for at := range want {
 		l, _ := pack.Read(b)
-		overwrite(append(l[at].Data, 0xDD, 0xDD, 0xDD, 0xDD, 0xDD, 0xDD), 0xDD)
-		overwrite(l[at].Data, 0xDD)
+		sample.Overwrite(append(l[at].Data, 0xDD, 0xDD, 0xDD, 0xDD, 0xDD, 0xDD), 0xDD)
+		sample.Overwrite(l[at].Data, 0xDD)
 		for i, o := range l {
 			if i != at && !sameObject(o, want[i]) {
 				t.Errorf("the objects %d and %d share memory", at, i)

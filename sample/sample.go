@@ -50,6 +50,14 @@ func With(b []byte, at int, x byte) []byte {
 	return append(append(bytes.Clone(b[:at]), x), b[at:]...)
 }
 
+// Overwrite writes over all of a list, its spare room too.
+func Overwrite[T any](l []T, x T) {
+	l = l[:cap(l)]
+	for i := range l {
+		l[i] = x
+	}
+}
+
 // Some is the beginning of a text, short enough to be shown.
 func Some(b []byte) []byte {
 	return b[:min(len(b), shownBytes)]

@@ -1,6 +1,7 @@
 package sample_test
 
 import (
+	"slices"
 	"testing"
 
 	"coffret/sample"
@@ -64,5 +65,15 @@ func TestOthers(t *testing.T) {
 	}
 	if !sample.Untouched(text, []byte("abc")) {
 		t.Errorf("the text is %q", text)
+	}
+}
+
+// All of a list is written over, what lies behind its length too, and nothing else.
+func TestOverwrite(t *testing.T) {
+	all := []int{1, 2, 3, 4, 5}
+	sample.Overwrite(all[1:2:4], 9)
+	sample.Overwrite(all[:0:0], 8)
+	if !slices.Equal(all, []int{1, 9, 9, 9, 5}) {
+		t.Errorf("the list is %d", all)
 	}
 }
